@@ -1,0 +1,263 @@
+package check
+
+import "testing"
+
+// TestP10_1Names types names, numbers, characters and strings, and reads places.
+func TestP10_1Names(t *testing.T) {
+	exprs(t, []sample{
+		{`i`, `Read(i)`},
+		{`e`, `Read(e<enum E>)`},
+		{`c`, `Read(c<char>)`},
+		{`b`, `Read(b<_Bool>)`},
+		{`A`, `0`},
+		{`B`, `5`},
+		{`1`, `1`},
+		{`2147483647`, `2147483647`},
+		{`4294967295u`, `4294967295<unsigned int>`},
+		{`1L`, `1<long>`},
+		{`1UL`, `1<unsigned long>`},
+		{`0x80000000`, `2147483648<unsigned int>`},
+		{`'a'`, `97`},
+		{`'\377'`, `-1`},
+		{`a`, `Addr<int *>(a<int [3]>)`},
+		{`m`, `Addr<int (*)[3]>(m<int [2][3]>)`},
+		{`ca`, `Addr<char *>(ca<char [4]>)`},
+		{`s`, `Read(s<struct S>)`},
+		{`n`, `Read(n<union N>)`},
+		{`op`, `Read(op<struct O *>)`},
+		{`"ab"`, `Addr<char *>(G25<char [3]>)`},
+		{`"a\0b"`, `Addr<char *>(G25<char [4]>)`},
+		{`""`, `Addr<char *>(G25<char [1]>)`},
+		{`"a" "b"`, `Addr<char *>(G25<char [3]>)`},
+	})
+}
+
+// TestP10_1Addresses types & and * and [ ].
+func TestP10_1Addresses(t *testing.T) {
+	exprs(t, []sample{
+		{`&i`, `Addr<int *>(i)`},
+		{`&a`, `Addr<int (*)[3]>(a<int [3]>)`},
+		{`&a[1]`, `Addr<int *>(Deref(PtrAdd*4<int *>(Addr<int *>(a<int [3]>) 1)))`},
+		{`&s`, `Addr<struct S *>(s<struct S>)`},
+		{`&s.c`, `Addr<char *>(Part.1<char>(s<struct S>))`},
+		{`&s.v`, `Addr<int (*)[2]>(Part.8<int [2]>(s<struct S>))`},
+		{`&s.t`, `Addr<struct T *>(Part.16<struct T>(s<struct S>))`},
+		{`&n.z[2]`, `Addr<char *>(Deref<char>(PtrAdd*1<char *>(Addr<char *>(Part.0<char [6]>(n<union N>)) 2)))`},
+		{`&*p`, `Addr<int *>(Deref(Read(p<int *>)))`},
+		{`&*op`, `Addr<struct O *>(Deref<struct O>(Read(op<struct O *>)))`},
+		{`&sp->t`, `Addr<struct T *>(Part.16<struct T>(Deref<struct S>(Read(sp<struct S *>))))`},
+		{`&m[1]`, `Addr<int (*)[3]>(Deref<int [3]>(PtrAdd*12<int (*)[3]>(Addr<int (*)[3]>(m<int [2][3]>) 1)))`},
+		{`&"ab"`, `Addr<char (*)[3]>(G25<char [3]>)`},
+		{`&(int){1}`, `Addr<int *>(Lit#0(Set(Part.0(L0) 1)))`},
+		{`*p`, `Read(Deref(Read(p<int *>)))`},
+		{`*a`, `Read(Deref(Addr<int *>(a<int [3]>)))`},
+		{`**pp`, `Read(Deref(Read(Deref<int *>(Read(pp<int **>)))))`},
+		{`*m`, `Addr<int *>(Deref<int [3]>(Addr<int (*)[3]>(m<int [2][3]>)))`},
+		{`**m`, `Read(Deref(Addr<int *>(Deref<int [3]>(Addr<int (*)[3]>(m<int [2][3]>)))))`},
+		{`*gp()`, `Read(Deref(gp<int *>))`},
+		{`*"ab"`, `Read(Deref<char>(Addr<char *>(G25<char [3]>)))`},
+		{`*&i`, `Read(Deref(Addr<int *>(i)))`},
+		{`*&s`, `Read(Deref<struct S>(Addr<struct S *>(s<struct S>)))`},
+		{`m[1]`, `Addr<int *>(Deref<int [3]>(PtrAdd*12<int (*)[3]>(Addr<int (*)[3]>(m<int [2][3]>) 1)))`},
+		{`m[1][2]`, `Read(Deref(PtrAdd*4<int *>(Addr<int *>(Deref<int [3]>(PtrAdd*12<int (*)[3]>(Addr<int (*)[3]>(m<int [2][3]>) 1))) 2)))`},
+		{`1[a]`, `Read(Deref(PtrAdd*4<int *>(Addr<int *>(a<int [3]>) 1)))`},
+		{`a[s.b]`, `Read(Deref(PtrAdd*4<int *>(Addr<int *>(a<int [3]>) Conv(Read(Part.0:3+5<unsigned int>(s<struct S>))))))`},
+		{`a[c]`, `Read(Deref(PtrAdd*4<int *>(Addr<int *>(a<int [3]>) Conv(Read(c<char>)))))`},
+		{`p[u]`, `Read(Deref(PtrAdd*4<int *>(Read(p<int *>) Conv(Read(u<unsigned int>)))))`},
+		{`"ab"[1]`, `Read(Deref<char>(PtrAdd*1<char *>(Addr<char *>(G25<char [3]>) 1)))`},
+		{`sp[1]`, `Read(Deref<struct S>(PtrAdd*28<struct S *>(Read(sp<struct S *>) 1)))`},
+		{`sp[1].c`, `Read(Part.1<char>(Deref<struct S>(PtrAdd*28<struct S *>(Read(sp<struct S *>) 1))))`},
+	})
+}
+
+// TestP10_1Members types . and -> of places.
+func TestP10_1Members(t *testing.T) {
+	exprs(t, []sample{
+		{`s.a`, `Read(Part.0:0+3(s<struct S>))`},
+		{`s.b`, `Read(Part.0:3+5<unsigned int>(s<struct S>))`},
+		{`s.c`, `Read(Part.1<char>(s<struct S>))`},
+		{`s.p`, `Read(Part.4<int *>(s<struct S>))`},
+		{`s.v`, `Addr<int *>(Part.8<int [2]>(s<struct S>))`},
+		{`s.v[1]`, `Read(Deref(PtrAdd*4<int *>(Addr<int *>(Part.8<int [2]>(s<struct S>)) 1)))`},
+		{`s.t`, `Read(Part.16<struct T>(s<struct S>))`},
+		{`s.t.y`, `Read(Part.2<short>(Part.16<struct T>(s<struct S>)))`},
+		{`s.w`, `Read(Part.20:0+32<unsigned int>(s<struct S>))`},
+		{`s.o`, `Read(Part.24:0+1<_Bool>(s<struct S>))`},
+		{`n.n`, `Read(Part.0(n<union N>))`},
+		{`n.z`, `Addr<char *>(Part.0<char [6]>(n<union N>))`},
+		{`sp->a`, `Read(Part.0:0+3(Deref<struct S>(Read(sp<struct S *>))))`},
+		{`sp->t.x`, `Read(Part.0<short>(Part.16<struct T>(Deref<struct S>(Read(sp<struct S *>)))))`},
+		{`sp->v`, `Addr<int *>(Part.8<int [2]>(Deref<struct S>(Read(sp<struct S *>))))`},
+		{`sp->p`, `Read(Part.4<int *>(Deref<struct S>(Read(sp<struct S *>))))`},
+		{`(*sp).b`, `Read(Part.0:3+5<unsigned int>(Deref<struct S>(Read(sp<struct S *>))))`},
+		{`sp[1].t.y`, `Read(Part.2<short>(Part.16<struct T>(Deref<struct S>(PtrAdd*28<struct S *>(Read(sp<struct S *>) 1)))))`},
+		{`(&s)->c`, `Read(Part.1<char>(Deref<struct S>(Addr<struct S *>(s<struct S>))))`},
+		{`(&n)->z[5]`, `Read(Deref<char>(PtrAdd*1<char *>(Addr<char *>(Part.0<char [6]>(Deref<union N>(Addr<union N *>(n<union N>)))) 5)))`},
+		{`(struct T){1, 2}.y`, `Read(Part.2<short>(Lit#0<struct T>(Set(Part.0<short>(L0<struct T>) Conv<short>(1)) Set(Part.2<short>(L0<struct T>) Conv<short>(2)))))`},
+	})
+}
+
+// TestP10_1MembersOfValues puts values into locals of their own, so that they have members.
+func TestP10_1MembersOfValues(t *testing.T) {
+	exprs(t, []sample{
+		{`gs().a`, `Read(Part.0:0+3(Lit#0<struct S>(Set(L0<struct S> gs<struct S>))))`},
+		{`gs().b + 1`, `Bin:add(Conv(Read(Part.0:3+5<unsigned int>(Lit#0<struct S>(Set(L0<struct S> gs<struct S>))))) 1)`},
+		{`gs().v`, `Addr<int *>(Part.8<int [2]>(Lit#0<struct S>(Set(L0<struct S> gs<struct S>))))`},
+		{`gs().v[1]`, `Read(Deref(PtrAdd*4<int *>(Addr<int *>(Part.8<int [2]>(Lit#0<struct S>(Set(L0<struct S> gs<struct S>)))) 1)))`},
+		{`gs().t`, `Read(Part.16<struct T>(Lit#0<struct S>(Set(L0<struct S> gs<struct S>))))`},
+		{`gs().t.x`, `Read(Part.0<short>(Lit#1<struct T>(Set(L1<struct T> Read(Part.16<struct T>(Lit#0<struct S>(Set(L0<struct S> gs<struct S>))))))))`},
+		{`gs().p`, `Read(Part.4<int *>(Lit#0<struct S>(Set(L0<struct S> gs<struct S>))))`},
+		{`*gs().p`, `Read(Deref(Read(Part.4<int *>(Lit#0<struct S>(Set(L0<struct S> gs<struct S>))))))`},
+		{`gs().p[1] = 3`, `Set(Deref(PtrAdd*4<int *>(Read(Part.4<int *>(Lit#0<struct S>(Set(L0<struct S> gs<struct S>)))) 1)) 3)`},
+		{`gn(n).n`, `Read(Part.0(Lit#0<union N>(Set(L0<union N> gn<union N>(Read(n<union N>))))))`},
+		{`gn(gn(n)).z[1]`, `Read(Deref<char>(PtrAdd*1<char *>(Addr<char *>(Part.0<char [6]>(Lit#0<union N>(Set(L0<union N> gn<union N>(gn<union N>(Read(n<union N>))))))) 1)))`},
+		{`(i ? s : gs()).c`, `Read(Part.1<char>(Lit#0<struct S>(Set(L0<struct S> Cond<struct S>(Read(i) Read(s<struct S>) gs<struct S>)))))`},
+		{`(s = gs()).t.y`, `Read(Part.2<short>(Lit#1<struct T>(Set(L1<struct T> Read(Part.16<struct T>(Lit#0<struct S>(Set(L0<struct S> Set(s<struct S> gs<struct S>)))))))))`},
+		{`(i, s).c`, `Read(Part.1<char>(Lit#0<struct S>(Set(L0<struct S> Comma<struct S>(Read(i) Read(s<struct S>))))))`},
+	})
+}
+
+// TestP10_1Unary types ! + - ~.
+func TestP10_1Unary(t *testing.T) {
+	exprs(t, []sample{
+		{`!i`, `Not(Read(i))`},
+		{`!p`, `Not(Read(p<int *>))`},
+		{`!a`, `Not(Addr<int *>(a<int [3]>))`},
+		{`!c`, `Not(Read(c<char>))`},
+		{`!s.b`, `Not(Read(Part.0:3+5<unsigned int>(s<struct S>)))`},
+		{`!!e`, `Not(Not(Read(e<enum E>)))`},
+		{`+i`, `Read(i)`},
+		{`+c`, `Conv(Read(c<char>))`},
+		{`+u`, `Read(u<unsigned int>)`},
+		{`+s.b`, `Conv(Read(Part.0:3+5<unsigned int>(s<struct S>)))`},
+		{`+s.a`, `Read(Part.0:0+3(s<struct S>))`},
+		{`+s.w`, `Read(Part.20:0+32<unsigned int>(s<struct S>))`},
+		{`+s.l`, `Conv(Read(Part.24:5+7<long>(s<struct S>)))`},
+		{`+e`, `Conv(Read(e<enum E>))`},
+		{`+s.e`, `Conv(Read(Part.24:1+4<enum E>(s<struct S>)))`},
+		{`+b`, `Conv(Read(b<_Bool>))`},
+		{`+s.o`, `Conv(Read(Part.24:0+1<_Bool>(s<struct S>)))`},
+		{`+ul`, `Read(ul<unsigned long>)`},
+		{`-i`, `Bin:sub(0 Read(i))`},
+		{`-u`, `Bin:sub<unsigned int>(0<unsigned int> Read(u<unsigned int>))`},
+		{`-c`, `Bin:sub(0 Conv(Read(c<char>)))`},
+		{`-1`, `Bin:sub(0 1)`},
+		{`-s.b`, `Bin:sub(0 Conv(Read(Part.0:3+5<unsigned int>(s<struct S>))))`},
+		{`-ul`, `Bin:sub<unsigned long>(0<unsigned long> Read(ul<unsigned long>))`},
+		{`~i`, `Bin:xor(Read(i) -1)`},
+		{`~u`, `Bin:xor<unsigned int>(Read(u<unsigned int>) 4294967295<unsigned int>)`},
+		{`~uc`, `Bin:xor(Conv(Read(uc<unsigned char>)) -1)`},
+		{`~l`, `Bin:xor<long>(Read(l<long>) -1<long>)`},
+		{`~ul`, `Bin:xor<unsigned long>(Read(ul<unsigned long>) 4294967295<unsigned long>)`},
+		{`~s.b`, `Bin:xor(Conv(Read(Part.0:3+5<unsigned int>(s<struct S>))) -1)`},
+		{`~s.w`, `Bin:xor<unsigned int>(Read(Part.20:0+32<unsigned int>(s<struct S>)) 4294967295<unsigned int>)`},
+	})
+}
+
+// TestP10_1Integers types binary operators of integers.
+func TestP10_1Integers(t *testing.T) {
+	exprs(t, []sample{
+		{`i + j`, `Bin:add(Read(i) Read(j))`},
+		{`i - j`, `Bin:sub(Read(i) Read(j))`},
+		{`i * j`, `Bin:mul(Read(i) Read(j))`},
+		{`i / j`, `Bin:divs(Read(i) Read(j))`},
+		{`i % j`, `Bin:rems(Read(i) Read(j))`},
+		{`i & j`, `Bin:and(Read(i) Read(j))`},
+		{`i | j`, `Bin:or(Read(i) Read(j))`},
+		{`i ^ j`, `Bin:xor(Read(i) Read(j))`},
+		{`i << j`, `Bin:shl(Read(i) Read(j))`},
+		{`i >> j`, `Bin:shrs(Read(i) Read(j))`},
+		{`u / i`, `Bin:divu<unsigned int>(Read(u<unsigned int>) Conv<unsigned int>(Read(i)))`},
+		{`u % i`, `Bin:remu<unsigned int>(Read(u<unsigned int>) Conv<unsigned int>(Read(i)))`},
+		{`u >> l`, `Bin:shru<unsigned int>(Read(u<unsigned int>) Conv(Read(l<long>)))`},
+		{`ul >> c`, `Bin:shru<unsigned long>(Read(ul<unsigned long>) Conv(Read(c<char>)))`},
+		{`h << u`, `Bin:shl(Conv(Read(h<short>)) Conv(Read(u<unsigned int>)))`},
+		{`s.b >> s.w`, `Bin:shrs(Conv(Read(Part.0:3+5<unsigned int>(s<struct S>))) Conv(Read(Part.20:0+32<unsigned int>(s<struct S>))))`},
+		{`l + u`, `Bin:add<unsigned long>(Conv<unsigned long>(Read(l<long>)) Conv<unsigned long>(Read(u<unsigned int>)))`},
+		{`i + l`, `Bin:add<long>(Conv<long>(Read(i)) Read(l<long>))`},
+		{`u + i`, `Bin:add<unsigned int>(Read(u<unsigned int>) Conv<unsigned int>(Read(i)))`},
+		{`c * uc`, `Bin:mul(Conv(Read(c<char>)) Conv(Read(uc<unsigned char>)))`},
+		{`e + 1`, `Bin:add(Conv(Read(e<enum E>)) 1)`},
+		{`b + b`, `Bin:add(Conv(Read(b<_Bool>)) Conv(Read(b<_Bool>)))`},
+		{`s.b - 6`, `Bin:sub(Conv(Read(Part.0:3+5<unsigned int>(s<struct S>))) 6)`},
+		{`6 - s.b`, `Bin:sub(6 Conv(Read(Part.0:3+5<unsigned int>(s<struct S>))))`},
+		{`1 >= s.b`, `Bin:les(Conv(Read(Part.0:3+5<unsigned int>(s<struct S>))) 1)`},
+		{`0 == u`, `Bin:eq(Conv<unsigned int>(0) Read(u<unsigned int>))`},
+		{`u != 0`, `Bin:ne(Read(u<unsigned int>) Conv<unsigned int>(0))`},
+		{`s.w - 6`, `Bin:sub<unsigned int>(Read(Part.20:0+32<unsigned int>(s<struct S>)) Conv<unsigned int>(6))`},
+		{`s.l | 1`, `Bin:or(Conv(Read(Part.24:5+7<long>(s<struct S>))) 1)`},
+		{`s.o + s.e`, `Bin:add(Conv(Read(Part.24:0+1<_Bool>(s<struct S>))) Conv(Read(Part.24:1+4<enum E>(s<struct S>))))`},
+		{`i < j`, `Bin:lts(Read(i) Read(j))`},
+		{`i <= j`, `Bin:les(Read(i) Read(j))`},
+		{`i > j`, `Bin:lts(Read(j) Read(i))`},
+		{`i >= j`, `Bin:les(Read(j) Read(i))`},
+		{`i == j`, `Bin:eq(Read(i) Read(j))`},
+		{`i != j`, `Bin:ne(Read(i) Read(j))`},
+		{`u < i`, `Bin:ltu(Read(u<unsigned int>) Conv<unsigned int>(Read(i)))`},
+		{`u <= i`, `Bin:leu(Read(u<unsigned int>) Conv<unsigned int>(Read(i)))`},
+		{`i > u`, `Bin:ltu(Read(u<unsigned int>) Conv<unsigned int>(Read(i)))`},
+		{`c >= ul`, `Bin:leu(Read(ul<unsigned long>) Conv<unsigned long>(Read(c<char>)))`},
+		{`s.b < 1`, `Bin:lts(Conv(Read(Part.0:3+5<unsigned int>(s<struct S>))) 1)`},
+		{`s.b > u`, `Bin:ltu(Read(u<unsigned int>) Conv<unsigned int>(Conv(Read(Part.0:3+5<unsigned int>(s<struct S>)))))`},
+		{`'a' == c`, `Bin:eq(97 Conv(Read(c<char>)))`},
+		{`1 + 'a' * 2L`, `Bin:add<long>(Conv<long>(1) Bin:mul<long>(Conv<long>(97) 2<long>))`},
+	})
+}
+
+// TestP10_1Pointers types binary operators with pointers.
+func TestP10_1Pointers(t *testing.T) {
+	exprs(t, []sample{
+		{`p + i`, `PtrAdd*4<int *>(Read(p<int *>) Read(i))`},
+		{`i + p`, `PtrAdd*4<int *>(Read(p<int *>) Read(i))`},
+		{`p - i`, `PtrAdd*4<int *>(Read(p<int *>) Bin:sub(0 Read(i)))`},
+		{`p + u`, `PtrAdd*4<int *>(Read(p<int *>) Conv(Read(u<unsigned int>)))`},
+		{`p + s.b`, `PtrAdd*4<int *>(Read(p<int *>) Conv(Read(Part.0:3+5<unsigned int>(s<struct S>))))`},
+		{`a + 1`, `PtrAdd*4<int *>(Addr<int *>(a<int [3]>) 1)`},
+		{`2 + m`, `PtrAdd*12<int (*)[3]>(Addr<int (*)[3]>(m<int [2][3]>) 2)`},
+		{`p - 1L`, `PtrAdd*4<int *>(Read(p<int *>) Bin:sub(0 Conv(1<long>)))`},
+		{`c + cp`, `PtrAdd*1<char *>(Read(cp<char *>) Conv(Read(c<char>)))`},
+		{`sp + 1`, `PtrAdd*28<struct S *>(Read(sp<struct S *>) 1)`},
+		{`p - q`, `Diff*4(Read(p<int *>) Read(q<int *>))`},
+		{`a - p`, `Diff*4(Addr<int *>(a<int [3]>) Read(p<int *>))`},
+		{`sp - sp`, `Diff*28(Read(sp<struct S *>) Read(sp<struct S *>))`},
+		{`m - m`, `Diff*12(Addr<int (*)[3]>(m<int [2][3]>) Addr<int (*)[3]>(m<int [2][3]>))`},
+		{`vp == p`, `Cmp:eq(Read(vp<void *>) Conv<void *>(Read(p<int *>)))`},
+		{`p == vp`, `Cmp:eq(Read(p<int *>) Conv<int *>(Read(vp<void *>)))`},
+		{`p == q`, `Cmp:eq(Read(p<int *>) Read(q<int *>))`},
+		{`p != q`, `Cmp:ne(Read(p<int *>) Read(q<int *>))`},
+		{`vp != vp`, `Cmp:ne(Read(vp<void *>) Read(vp<void *>))`},
+		{`op == op`, `Cmp:eq(Read(op<struct O *>) Read(op<struct O *>))`},
+		{`p < q`, `Cmp:ltu(Read(p<int *>) Read(q<int *>))`},
+		{`p <= q`, `Cmp:leu(Read(p<int *>) Read(q<int *>))`},
+		{`p > q`, `Cmp:ltu(Read(q<int *>) Read(p<int *>))`},
+		{`p >= a`, `Cmp:leu(Addr<int *>(a<int [3]>) Read(p<int *>))`},
+		{`ca > cp`, `Cmp:ltu(Read(cp<char *>) Addr<char *>(ca<char [4]>))`},
+		{`vp > vp`, `Cmp:ltu(Read(vp<void *>) Read(vp<void *>))`},
+		{`p != 0`, `Cmp:ne(Read(p<int *>) 0<int *>)`},
+		{`0 == p`, `Cmp:eq(0<int *> Read(p<int *>))`},
+		{`0L != vp`, `Cmp:ne(0<void *> Read(vp<void *>))`},
+		{`p == A`, `Cmp:eq(Read(p<int *>) 0<int *>)`},
+		{`p == 1 - 1`, `Cmp:eq(Read(p<int *>) 0<int *>)`},
+		{`a == 0`, `Cmp:eq(Addr<int *>(a<int [3]>) 0<int *>)`},
+		{`(void *)0 == 0`, `Cmp:eq(0<void *> 0<void *>)`},
+		{`0 != op`, `Cmp:ne(0<struct O *> Read(op<struct O *>))`},
+	})
+}
+
+// TestP10_1Commas types , && and ||.
+func TestP10_1Commas(t *testing.T) {
+	exprs(t, []sample{
+		{`i, j`, `Comma(Read(i) Read(j))`},
+		{`v(), i`, `Comma(v<void> Read(i))`},
+		{`s, t`, `Comma<struct T>(Read(s<struct S>) Read(t<struct T>))`},
+		{`a, p`, `Comma<int *>(Addr<int *>(a<int [3]>) Read(p<int *>))`},
+		{`*p, 1`, `Comma(Read(Deref(Read(p<int *>))) 1)`},
+		{`1, s.b`, `Comma<unsigned int>(1 Read(Part.0:3+5<unsigned int>(s<struct S>)))`},
+		{`(void)s, c`, `Comma<char>(Void<void>(Read(s<struct S>)) Read(c<char>))`},
+		{`i && p`, `And(Read(i) Read(p<int *>))`},
+		{`s.b || a`, `Or(Read(Part.0:3+5<unsigned int>(s<struct S>)) Addr<int *>(a<int [3]>))`},
+		{`u && 1L`, `And(Read(u<unsigned int>) 1<long>)`},
+		{`c || b`, `Or(Read(c<char>) Read(b<_Bool>))`},
+		{`e && vp`, `And(Read(e<enum E>) Read(vp<void *>))`},
+	})
+}
