@@ -184,3 +184,51 @@ func TestP10_3Same(t *testing.T) {
 		}
 	}
 }
+
+// sortOf is which of a tree's places a node may stand in: those of expressions, specifiers, declarators or statements (0: of none of these).
+func sortOf(k api.TreeKind) int {
+	switch {
+	case k == api.TrStr || k >= api.TrName && k <= api.TrLit:
+		return 1
+	case k == api.TrBase || k == api.TrTag || k == api.TrAlias:
+		return 2
+	case k == api.TrHole || k == api.TrPtr || k == api.TrArray || k == api.TrFn:
+		return 3
+	case k >= api.TsBlock && k <= api.TsReturn:
+		return 4
+	}
+	return 0
+}
+
+// TestP10_3Trees: trees in which parts stand that no text has there end with a program that is typed, or with a fault.
+func TestP10_3Trees(t *testing.T) {
+	right, taken, codes := 0, 0, map[api.Errno]int{}
+	eachGrown(1500, func(g *grower, text string) {
+		x, _ := parse.Unit(text + " typedef int T; T y; int z = sizeof(T *), w[2];")
+		var parts []*api.Tree
+		everyNode(&x, func(x *api.Tree) { parts = append(parts, x) })
+		for range 1 + g.Intn(3) {
+			to, from := parts[g.Intn(len(parts))], parts[g.Intn(len(parts))]
+			if sortOf(to.Kind) != 0 && sortOf(to.Kind) == sortOf(from.Kind) {
+				spot := to.At
+				*to = tree.Bare(*from)
+				to.At = spot
+			}
+		}
+		if tree.Check(x) != api.OK {
+			return
+		}
+		taken++
+		p, f := Check(x)
+		codes[f.Code]++
+		if f.Code == api.OK {
+			right++
+			judge(t, text, p)
+		} else if !reflect.DeepEqual(p, api.Prog{}) {
+			t.Errorf("%q: a program beside %v", text, f)
+		}
+	})
+	if taken < 500 || right < 100 || len(codes) < 8 {
+		t.Errorf("only %d trees, %d programs, and %v", taken, right, codes)
+	}
+}
