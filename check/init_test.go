@@ -63,6 +63,7 @@ func TestP10_1Locals(t *testing.T) {
 		{`char x[5] = { "a\0b" }`, `Zero#0 Expr(Set(Part.0<char>(L0<char [5]>) 97<char>)) Expr(Set(Part.2<char>(L0<char [5]>) 98<char>))`},
 		{`unsigned char x[2] = "\377\1"`, `Zero#0 Expr(Set(Part.0<unsigned char>(L0<unsigned char [2]>) 255<unsigned char>)) Expr(Set(Part.1<unsigned char>(L0<unsigned char [2]>) 1<unsigned char>))`},
 		{`char x[2][3] = { "ab", "c" }`, `Zero#0 Expr(Set(Part.0<char>(L0<char [2][3]>) 97<char>)) Expr(Set(Part.1<char>(L0<char [2][3]>) 98<char>)) Expr(Set(Part.3<char>(L0<char [2][3]>) 99<char>))`},
+		{`char x[1][2] = { { 1, 2 }, [0] = "a" }`, `Zero#0 Expr(Set(Part.0<char>(L0<char [1][2]>) Conv<char>(1))) Expr(Set(Part.1<char>(L0<char [1][2]>) Conv<char>(2))) Expr(Set(Part.0<char>(L0<char [1][2]>) 97<char>))`},
 		{`struct { char n[4]; int v; } x = { "ab", 7 }`, `Zero#0 Expr(Set(Part.0<char>(L0<struct #1>) 97<char>)) Expr(Set(Part.1<char>(L0<struct #1>) 98<char>)) Expr(Set(Part.4(L0<struct #1>) 7))`},
 		{`char *x = "ab"`, `Zero#0 Expr(Set(Part.0<char *>(L0<char *>) Addr<char *>(G25<char [3]>)))`},
 		{`char *x[] = { "ab", "ab" }`, `Zero#0 Expr(Set(Part.0<char *>(L0<char *[2]>) Addr<char *>(G25<char [3]>))) Expr(Set(Part.4<char *>(L0<char *[2]>) Addr<char *>(G26<char [3]>)))`},
