@@ -93,7 +93,7 @@ func (g *grower) number(deep int) string {
 		return g.pick("fn("+a+", "+g.record(deep-1)+", "+g.pointer(deep-1)+")", "fe("+a+" | 1)", "fr("+a+" & 7)", "fs("+g.record(deep-1)+", "+a+")."+g.field(), "fu("+g.union(deep-1)+").n", "((struct S) { .v = { "+a+" }, .b = "+b+" })."+g.field())
 	case 14:
 		if g.dares() {
-			return g.pick("fe("+a+")", "*fp("+a+")", "fr("+a+")", g.pointer(deep-1)+"["+a+"]", "*"+g.named("ptr")+"++", "("+g.record(0)+".next)->a", "*(int *) 0", g.named("uni")+".p[0]", "main()", "((struct S *) &"+g.named("num")+")->c")
+			return g.pick("fe("+a+")", "(fe("+a+") + "+b+")", "fn(fe("+a+"), "+g.record(deep-1)+", "+g.pointer(deep-1)+")", "*fp("+a+")", "fr("+a+")", g.pointer(deep-1)+"["+a+"]", "*"+g.named("ptr")+"++", "("+g.record(0)+".next)->a", "*(int *) 0", g.named("uni")+".p[0]", "main()", "((struct S *) &"+g.named("num")+")->c")
 		}
 	}
 	return "*" + g.pointer(deep-1)
@@ -148,7 +148,7 @@ func (g *grower) pointer(deep int) string {
 		return "(" + g.pick(g.named("ptr"), g.named("array"), g.named("rec")+".v", "&g0", "&"+g.named("array")+"[2]", "&"+g.named("rptr")+"->v[1]") + ")"
 	}
 	if g.dares() {
-		return "(" + g.pick(g.pointer(deep-1)+" + "+g.number(deep-1), g.pointer(deep-1)+" - 1", "(int *) 0", g.named("rec")+".p", g.named("uni")+".p", "fp("+g.number(deep-1)+")", g.named("ptr")+g.pick("++", "--"), "(int *) &"+g.named("bytes")+"[1]") + ")"
+		return "(" + g.pick(g.pointer(deep-1)+" + "+g.number(deep-1), g.pointer(deep-1)+" - 1", "(int *) 0", g.named("rec")+".p", g.named("uni")+".p", "fp("+g.number(deep-1)+")", "fq("+g.number(deep-1)+")", g.named("ptr")+g.pick("++", "--"), "(int *) &"+g.named("bytes")+"[1]") + ")"
 	}
 	return "(" + g.pick("ga + "+g.index(deep-1), g.index(deep-1)+" + ga", "ga + 4 - 1 - "+g.index(0), g.number(deep-1)+" ? "+g.pointer(deep-1)+" : "+g.pointer(deep-1), "(int *) (void *) "+g.pointer(deep-1), g.named("ptr")+" = "+g.pointer(deep-1), "*&"+g.named("ptr")) + ")"
 }
@@ -157,6 +157,9 @@ func (g *grower) pointer(deep int) string {
 func (g *grower) record(deep int) string {
 	if deep <= 0 || g.Intn(3) == 0 {
 		return "(" + g.pick(g.named("rec"), "*"+g.named("rptr"), "gr["+g.pick("0", "1")+"]") + ")"
+	}
+	if g.dares() {
+		return "(" + g.pick("ft("+g.number(deep-1)+")", "fs(ft("+g.number(deep-1)+"), "+g.number(deep-1)+")", g.named("rec")+" = ft("+g.number(deep-1)+")") + ")"
 	}
 	return "(" + g.pick("fs("+g.record(deep-1)+", "+g.number(deep-1)+")", g.named("rec")+" = "+g.record(deep-1), "*"+g.named("rptr")+" = "+g.record(deep-1), g.number(deep-1)+" ? "+g.record(deep-1)+" : "+g.record(deep-1), g.number(deep-1)+", "+g.record(deep-1), "(struct S) { .c = "+g.number(deep-1)+", .p = ga, .next = &gs }") + ")"
 }
@@ -283,6 +286,8 @@ int fn(int n, struct S s, int *p); struct S fs(struct S v, int n); union U fu(un
 int fe(int n) { if (n & 1) return n; }
 int fr(int n) { return n <= 0 ? 1 : n + fr(n - 1); }
 int *fp(int n) { int x = n; return n & 1 ? ga : &x; }
+int *fq(int n) { if (n & 1) return ga; }
+struct S ft(int n) { if (n & 1) return gs; }
 `
 
 // unit grows a unit.

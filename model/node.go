@@ -15,21 +15,14 @@ func (m *machine) node(x *api.Tree) value {
 	return v
 }
 
-// taken does a node whose value is taken for something, so that nothing will not do.
-func (m *machine) taken(x *api.Tree) value {
-	v := m.node(x)
-	want(!v.isNothing())
-	return v
-}
+// scalar does a node that is a scalar or a place, and takes it at once: for those that have no other part to do first.
+func (m *machine) scalar(x *api.Tree) api.Val { return m.node(x).taken().scalar }
 
-// scalar does a node that is a scalar or a place.
-func (m *machine) scalar(x *api.Tree) api.Val { return m.taken(x).scalar }
-
-// pair does two nodes, the left one first.
+// pair does two nodes, the left one first. Neither is taken ahead of the other: the right one is done even if the left one has nothing.
 func (m *machine) pair(x *api.Tree) (api.Val, api.Val) {
-	a := m.scalar(&x.Sub[0])
-	b := m.scalar(&x.Sub[1])
-	return a, b
+	a := m.node(&x.Sub[0])
+	b := m.node(&x.Sub[1])
+	return a.taken().scalar, b.taken().scalar
 }
 
 // holds does a node of which is asked whether it is not 0.
@@ -113,10 +106,10 @@ func (m *machine) readNode(x *api.Tree) value {
 	return m.read(m.place(&x.Sub[0]))
 }
 
-// set does a TxSet.
+// set does a TxSet. Its value is taken as it is put, behind the steps of its bytes.
 func (m *machine) set(x *api.Tree) value {
 	p := m.place(&x.Sub[0])
-	v := m.taken(&x.Sub[1])
+	v := m.node(&x.Sub[1])
 	m.spendBytes(p.is)
 	return m.put(p, v)
 }
@@ -126,7 +119,7 @@ func (m *machine) update(x *api.Tree) value {
 	p := m.place(&x.Sub[0])
 	had, outer := m.read(p), m.old
 	m.old = had
-	v := m.taken(&x.Sub[1])
+	v := m.node(&x.Sub[1])
 	m.old = outer
 	has := m.put(p, v)
 	if x.Num == behind {
@@ -146,11 +139,11 @@ func (m *machine) cond(x *api.Tree) value {
 	return m.node(&x.Sub[2])
 }
 
-// callNode does a TxCall.
+// callNode does a TxCall. Its arguments are taken as the parameters get them, when all of them are done and the call has begun.
 func (m *machine) callNode(x *api.Tree) value {
 	var args []value
 	for i := range x.Sub {
-		args = append(args, m.taken(&x.Sub[i]))
+		args = append(args, m.node(&x.Sub[i]))
 	}
 	return m.call(x.Num, args)
 }

@@ -43,8 +43,9 @@ func (m *machine) read(p place) value {
 	return value{scalar: m.readScalar(p)}
 }
 
-// put gives a place a value, and answers what it has then.
+// put takes a value, gives it to a place, and answers what that has then.
 func (m *machine) put(p place, v value) value {
+	v = v.taken()
 	switch {
 	case p.field.Bits != 0:
 		return value{scalar: m.putField(p, v.scalar)}

@@ -113,7 +113,7 @@ func (m *machine) loop(x *api.Tree) way {
 // leave does a TsReturn.
 func (m *machine) leave(x *api.Tree) way {
 	if len(x.Sub) > 0 {
-		m.innermost().result = m.taken(&x.Sub[0])
+		m.innermost().result = m.node(&x.Sub[0]).taken()
 	}
 	return returning
 }

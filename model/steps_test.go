@@ -255,10 +255,10 @@ func TestP12_1StepsOfStops(t *testing.T) {
 		{"p - &z;", api.StopUndef, 2 + 5},              // both sides are done first
 		{"1 / z;", api.StopZero, 2 + 4},                // TxBin, TxConst, TxRead, TxGlobal
 		{"1 + f();", api.StopUndef, 2 + 4},             // TxBin, TxConst, TxCall, TsBlock
-		{"f() + 1;", api.StopUndef, 2 + 3},             // nothing is taken as soon as it is there
+		{"f() + 1;", api.StopUndef, 2 + 4},             // TxBin, TxCall, TsBlock, TxConst
 		{"z = f();", api.StopUndef, 2 + 4},             // TxSet, TxGlobal, TxCall, TsBlock
-		{"s = g();", api.StopUndef, 2 + 4},             // none of the bytes are counted
-		{"h(g());", api.StopUndef, 2 + 3},              // TxCall, TxCall, TsBlock
+		{"s = g();", api.StopUndef, 2 + 4 + 8},         // TxSet, TxGlobal, TxCall, TsBlock, and the bytes behind them
+		{"h(g());", api.StopUndef, 2 + 3 + 8},          // TxCall, TxCall, TsBlock, and the parameter's bytes
 		{"return f();", api.StopUndef, 2 + 2},          // TsReturn, TxCall, TsBlock
 		{"z ? 0 : f() ? 1 : 2;", api.StopUndef, 2 + 6}, // TxCond, TxRead, TxGlobal, TxCond, TxCall, TsBlock
 		{"int x; x;", api.StopUndef, 2 + 3},            // TsFresh, TsExpr, TxRead, TxLocal

@@ -10,16 +10,16 @@ func bitsOf(place api.Tree) (bit, bits int) {
 	return 0, 0
 }
 
-// values tells the values of nodes that are taken, one behind the other.
+// values tells the values of nodes, one behind the other: each is done, even if one ahead of it has nothing.
 func (w *teller) values(l []api.Tree) []thing {
 	var got []thing
 	for _, x := range l {
-		got = append(got, w.some(x))
+		got = append(got, w.expr(x))
 	}
 	return got
 }
 
-// some tells a node whose value is taken.
+// some tells a node whose value is taken at once.
 func (w *teller) some(x api.Tree) thing {
 	v := w.expr(x)
 	if v.sort == isNone {
@@ -103,13 +103,13 @@ func (w *teller) readOrPut(x api.Tree) thing {
 	}
 	p := w.expr(place)
 	if x.Kind == api.TxSet {
-		v := w.some(x.Sub[1])
+		v := w.expr(x.Sub[1])
 		w.steps(besides)
 		return w.put(p, place.Type, bit, bits, v)
 	}
 	had := w.get(p, place.Type, bit, bits)
 	w.olds = append(w.olds, had)
-	v := w.some(x.Sub[1])
+	v := w.expr(x.Sub[1])
 	w.olds = w.olds[:len(w.olds)-1]
 	has := w.put(p, place.Type, bit, bits, v)
 	if x.Num == 1 {
@@ -176,7 +176,7 @@ func (w *teller) reckoned(x api.Tree, l []thing) thing {
 	case api.TxConst:
 		return w.number(int64(x.Num), x.Type)
 	case api.TxConv:
-		if w.kind(x.Type) == api.TPtr {
+		if w.kind(x.Type) == api.TPtr && l[0].sort != isNone {
 			return l[0]
 		}
 		if l[0].sort != isNumber {

@@ -37,6 +37,12 @@ func pointerOf(v api.Val) api.Val {
 // isNothing tells whether a value is that of a function that ended without one.
 func (v value) isNothing() bool { return v.scalar == api.Val{} && len(v.bytes) == 0 }
 
+// taken is a value that is taken for something, so that nothing will not do.
+func (v value) taken() value {
+	want(!v.isNothing())
+	return v
+}
+
 // points tells whether a Val is one that pointers have: one of a block, or the number 0.
 func points(v api.Val) bool { return v.Kind == api.ValPtr || v == number(0) }
 

@@ -201,11 +201,6 @@ func TestP12_3Nothing(t *testing.T) {
 		exit("int f(int n) { while (1) { if (n) break; return 3; } } int main(void) { f(1); return f(0); }", 3),
 		exit("int f(int n) { if (n) return n; } int main(void) { f(5); f(0); return f(6); }", 6),
 		undefined("int f(int n) { if (n) return n; } int main(void) { f(5); return f(0); }"),
-		undefined("int f(void) { } int main(void) { return f() + putchar('x'); }"), // it is taken as soon as it is there
-		sample{"int f(void) { } int main(void) { return putchar('x') + f(); }", api.StopUndef, 0, "x"},
-		undefined("int f(void) { } int h(int a, int b) { return putchar('y'); } int main(void) { return h(f(), putchar('x')); }"),
-		sample{"int f(void) { } int h(int a, int b) { return putchar('y'); } int main(void) { return h(putchar('x'), f()); }", api.StopUndef, 0, "x"},
-		undefined("int f(void) { } int d(int n) { if (n) return d(n - 1); return d(f()); int "+names("a", 255)+"; } int main(void) { return d(7); }"), // ahead of the call that would have too many locals
 		undefined("int f(void) { } int main(void) { return f() / 0; }"),
 	)
 }
