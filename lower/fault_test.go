@@ -139,9 +139,9 @@ func TestP15_1Tokens(t *testing.T) {
 
 // TestP15_1Long: long texts have code, as long as layer 13 takes it; no more than that is answered.
 func TestP15_1Long(t *testing.T) {
-	for _, piece := range []string{"x++;", "b.f++;", "putchar(1);", "*p = b;"} {
+	for _, piece := range []string{"x++;", "b.f++;", "putchar(1);", "*p = b;", "y++;", "l.f = y;"} {
 		text := func(n int) string {
-			return inMain("int x; struct { int a : 3, f : 30; } b, *p = &b;", strings.Repeat(piece, n)+"return 0;")
+			return inMain("int x; struct B { int a : 3, f : 30; } b, *p = &b;", "int y = 1; struct B l = { 1 }; "+strings.Repeat(piece, n)+"return y;")
 		}
 		few, many := 1, api.MaxTokens/tokensOf(t, piece)-20
 		if _, f := check.Text(text(many)); f != (api.Fault{}) {

@@ -72,7 +72,7 @@ func TestP15_3FieldPlaces(t *testing.T) {
 		"q[1].d = -512; q[-1].a = 1; return l[2].d + l[0].a;":                                           -511,
 		"o.b[1].c = 2047; r->b[1].c++; return o.b[1].c;":                                                -2048,
 		"r->u.n = 0xffffffff; r->u.b.b = 0; return o.u.b.a * 100 + o.u.b.b * 10 + r->u.b.c;":            -101,
-		"o.u.n = 0x12345678; return o.u.s;":                                                             0x678 - 0x800 + 0x0,
+		"o.u.n = 0x12345678; return o.u.s;":                                                             0x678 - 0x800,
 		"o.u.s = -1; return o.u.z[0] * 1000 + o.u.z[1];":                                                255007,
 		"(*p).a = 3; (&g)->a++; return g.a;":                                                            -4,
 		"struct B x = { 1, 2, 3, 4 }, y; y = x; y.b--; return x.b * 1000 + y.a * 100 + y.b * 10 + y.c;": 2113,

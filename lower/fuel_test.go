@@ -32,19 +32,19 @@ func TestP15_3Fuel(t *testing.T) {
 
 // TestP15_3FuelMost: of runs so long that their code may end by StopFuel it ends so, or as C's machine does.
 func TestP15_3FuelMost(t *testing.T) {
-	for _, c := range []struct{ times, stop int }{{10000, 0}, {100000, 0}, {300000, 0}} {
-		text := inMain("int x;", fmt.Sprintf("int i; for (i = 0; i < %d; i++) { x += i; } putchar('z'); return x %% 100;", c.times))
+	for _, times := range []int{10000, 100000, 300000} {
+		text := inMain("int x;", fmt.Sprintf("int i; for (i = 0; i < %d; i++) { x += i; } putchar('z'); return x %% 100;", times))
 		want, err := model.Run(programOf(t, text), nil, api.MaxFuel)
 		if err != api.OK || want.Stop != api.StopExit && want.Stop != api.StopFuel {
 			t.Fatalf("%v", want)
 		}
 		p := codeOf(t, text)
 		if why := follows(p, nil, want); why != "" {
-			t.Errorf("%d times: %s", c.times, why)
+			t.Errorf("%d times: %s", times, why)
 		}
 		o, _ := tacrun.Run(p, nil, api.MaxFuel)
 		if o.Stop != api.StopExit && o.Stop != api.StopFuel || o.Stop == api.StopFuel && len(o.Out) > 0 {
-			t.Errorf("%d times: %v", c.times, o)
+			t.Errorf("%d times: %v", times, o)
 		}
 	}
 }

@@ -6,7 +6,7 @@ import "testing"
 func TestP15_3Order(t *testing.T) {
 	const ahead = "int x, a[4] = { 1, 2, 3, 4 }, *q = a; int p(int n) { putchar('a' + n); return n; } int *at(int n) { putchar('A' + n); return a + n; } int set(int n) { x = n; return 0; } " +
 		"int f(int a, int b, int c) { putchar('0' + a); putchar('0' + b); putchar('0' + c); return a; } struct S { int n, m; } s = { 1, 2 }, z[2]; struct S g(int n) { putchar('s'); struct S s = { n, n + 1 }; return s; } int h(struct S a, struct S b, int n) { putchar('0' + a.n); putchar('0' + b.n); return n; } " +
-		"struct S *sp(int n) { putchar('Z' - n); return z + n; } "
+		"int turn(int n) { s.n = n; z[0].n = n; return n; } struct S back(int n) { s.n = n; return z[1]; } struct S *sp(int n) { putchar('Z' - n); return z + n; } "
 	for text, out := range map[string]string{
 		"f(p(1), p(2), p(3));":        "bcd123",
 		"f(x, set(5), x);":            "005",
@@ -40,6 +40,15 @@ func TestP15_3Order(t *testing.T) {
 		"h(g(h(s, g(8), 3)), g(2), p(0));":                                       "s18ssa32",
 		"h((struct S) { p(4) }, (struct S) { p(5), p(6) }, 1);":                  "efg45",
 		"h(x ? s : g(2), x ? g(3) : s, x = 1);":                                  "s21",
+		"h(s, s, turn(8));":                                                      "11",
+		"h(s, back(8), 0);":                                                      "10",
+		"h(s, z[0], turn(8) + turn(9));":                                         "10",
+		"h(*sp(0), s, (turn(5), turn(6)));":                                      "Z01",
+		"h(h(s, s, turn(3)) ? s : z[1], s, turn(4));":                            "1133",
+		"h(back(7), back(8), turn(9));":                                          "00",
+		"h(s, s, h(s, s, turn(8)));":                                             "1111",
+		"h(x ? s : z[1], turn(2) ? s : z[1], turn(3));":                          "02",
+		"h((turn(2), s), (turn(3), s), (turn(4), 0));":                           "23",
 		"x = a[x] = x + 2; f(x, a[0], a[2]);":                                    "223",
 		"x = 1; a[x] = x = 2; f(a[1], a[2], x);":                                 "232",
 		"x = 1; a[x++] = x; f(a[1], a[2], x);":                                   "232",

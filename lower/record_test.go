@@ -51,7 +51,7 @@ func TestP15_3Records(t *testing.T) {
 		"struct S l = up((struct S) { 1, 1, { 1, 1 } }); return sum(l);":                                                      1211,
 		"struct S *q = &(struct S) { 2, 3 }; *q = up(*q); return sum(*q);":                                                    2400,
 		"a[x++] = a[x++] = s; return x * 10000 + sum(a[0]) + sum(a[1]);":                                                      20000 + 2468,
-		"int i; for (i = 0; i < 3; i++) { struct S l = s; l.n = i; a[i] = up(l); } return sum(a[0]) + sum(a[1]) + sum(a[2]);": 3034 + 100*6 + 3*100 - 100*3 + 3*34 - 34,
+		"int i; for (i = 0; i < 3; i++) { struct S l = s; l.n = i; a[i] = up(l); } return sum(a[0]) + sum(a[1]) + sum(a[2]);": 3702,
 		"p = a; *p++ = s; *p++ = up(s); return (p - a) * 10000 + sum(a[0]) + sum(p[-1]);":                                     20000 + 1234 + 1334,
 	})
 }
@@ -191,14 +191,18 @@ func TestP15_3GrownRecords(t *testing.T) {
 
 // TestP15_3LargeRecords: records as large as they may be are handed over and returned, also several of them at one time.
 func TestP15_3LargeRecords(t *testing.T) {
-	const ahead = "struct L { char c[16384]; } g, h; struct H { short c[6001]; } k; struct L up(struct L l) { l.c[16383]++; return l; } int f(struct L a, struct L b, int n) { return a.c[16383] * 100 + b.c[16383] * 10 + n; } struct H hu(struct H h, int n) { h.c[6000] += n; return h; } "
+	const ahead = "struct L { char c[16384]; } g, h; struct H { short c[6001]; } k; struct L up(struct L l) { l.c[16383]++; return l; } int f(struct L a, struct L b, int n) { return a.c[16383] * 100 + b.c[16383] * 10 + n; } struct H hu(struct H h, int n) { h.c[6000] += n; return h; } int three(struct H a, struct H b, struct H c) { return a.c[6000] * 100 + b.c[6000] * 10 + c.c[6000]; } int two(struct H a, struct L l, struct H b) { return a.c[6000] * 100 + b.c[6000] * 10 + l.c[16383]; } "
 	bodies(t, ahead, map[string]int{
-		"g = up(up(g)); return g.c[16383];":                                                                                           2,
-		"return f(up(g), up(up(g)), 3);":                                                                                              123,
-		"return f(up(g), f(g, g, 1) ? up(up(up(g))) : g, f(up(g), g, 0));":                                                            100 + 30 + 100,
-		"h = g = up(h); return f(g, h, 0);":                                                                                           110,
-		"struct L *p = &g, *q = &h; *p = *q = up(*p); return f(*p, *q, 1);":                                                           111,
-		"struct L l = up(g), m[1] = { up(l) }; return f(l, m[0], 0);":                                                                 120,
+		"g = up(up(g)); return g.c[16383];":                                 2,
+		"return f(up(g), up(up(g)), 3);":                                    123,
+		"return f(up(g), f(g, g, 1) ? up(up(up(g))) : g, f(up(g), g, 0));":  100 + 30 + 100,
+		"h = g = up(h); return f(g, h, 0);":                                 110,
+		"struct L *p = &g, *q = &h; *p = *q = up(*p); return f(*p, *q, 1);": 111,
+		"struct L l = up(g), m[1] = { up(l) }; return f(l, m[0], 0);":       120,
+		"return three(hu(k, 1), hu(k, 2), hu(k, 3));":                       123,
+		"return two(hu(k, 1), up(g), hu(k, 3));":                            131,
+		"return three(hu(k, 1), three(k, hu(k, 4), k) ? hu(k, 2) : k, three(hu(k, 1), k, k) ? hu(k, 3) : k) + two(k, g, hu(k, 5));":   173,
+		"struct H l = hu(k, 7); return three(hu(k, 1), l = hu(l, 1), hu(l, 1)) - three(k, k, hu(l, 1));":                              180,
 		"up(g), up(g); k = hu(hu(k, 3), 4); return hu(k, 1).c[6000] * 10 + k.c[6000];":                                                87,
 		"return f(up(g), up(g), 0) + f(up(g), up(g), 0) + f(up(g), up(g), 0) + hu(k, 2).c[6000] + hu(k, 3).c[6000] + f(g, up(g), 1);": 330 + 5 + 11,
 	})

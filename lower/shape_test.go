@@ -110,14 +110,10 @@ func TestP15_2Parameters(t *testing.T) {
 		{"int f(int a, int b, int c, int d, int e, int g, int h) { return a + b * 2 + c * 4 + d * 8 + e * 16 + g * 32 + h * 64; }", []int{1, 0, 1, 1, 0, 0, 1}, 77},
 		{"int f(char a, unsigned short b, _Bool c, long d) { return a * 1000 + b * 100 + c * 10 + d; }", []int{3, 65, 1, 4}, 3000 + 6500 + 10 + 4},
 		{"int f(int *p, char *q, int n) { p[n] = q[n] + n; return x[1] * 100 + *q; }", []int{-2, -1, 1}, ('b'+1)*100 + 'a'},
-		{"int *f(int a) { return x + a; } int h(int *p) { return *p; }", nil, 0},
 		{"enum E { A, B } f(enum E e) { return e + 1; }", []int{8}, 9},
 		{"struct S { int a, b; }; int f(int n) { struct S s = { n, 5 }; return s.a * s.b; }", []int{6}, 30},
 	} {
 		p := codeOf(t, inMain("int x[4]; char z[3] = \"ab\";"+c.function, "return 0;"))
-		if c.function[:3] == "int" && c.function[4] == '*' {
-			continue
-		}
 		q := handed(p, 0, c.args...)
 		if err := tac.Check(q); err != api.OK {
 			t.Fatalf("error %d", err)

@@ -30,10 +30,18 @@ func (b *builder) start(n int, sets []api.Tree) {
 // covers tells whether a TxSet of local n sets all its bytes without asking what they were.
 func (b *builder) covers(n int, set *api.Tree) bool {
 	to := &set.Sub[0]
-	if to.Kind == api.TxPart && to.Num != 0 {
+	if at, isField := within(to); at != 0 || isField {
 		return false
 	}
 	return b.shape(to.Type).size == b.shape(b.source.Locals[n]).size && !mentions(&set.Sub[1], n)
+}
+
+// within tells of a place that is a local, or a part of one, how many bytes from that one's beginning on it is, and whether it is a bit-field.
+func within(to *api.Tree) (int, bool) {
+	if to.Kind != api.TxPart {
+		return 0, false
+	}
+	return to.Num / offsetUnit, to.Num%offsetUnit != 0
 }
 
 // mentions tells whether local n is named in a node.
@@ -65,7 +73,8 @@ func isSetOf(n int, x *api.Tree) bool {
 func (b *builder) constantSets(n int, sets []api.Tree) []api.Tree {
 	for i := range sets {
 		_, known := b.known(&sets[i].Sub[1])
-		if !known || !isSetOf(n, &sets[i]) || sets[i].Sub[0].Num%offsetUnit != 0 {
+		_, isField := within(&sets[i].Sub[0])
+		if !known || !isSetOf(n, &sets[i]) || isField {
 			return sets[:i]
 		}
 	}
@@ -102,10 +111,8 @@ func (b *builder) imageOf(n int, sets []api.Tree) image {
 	size := b.shape(b.source.Locals[n]).size
 	m := image{bytes: make([]byte, size), known: make([]bool, size)}
 	for i := range sets {
-		to, at := &sets[i].Sub[0], 0
-		if to.Kind == api.TxPart {
-			at = to.Num / offsetUnit
-		}
+		to := &sets[i].Sub[0]
+		at, _ := within(to)
 		v, _ := b.known(&sets[i].Sub[1])
 		for j, c := range word.Bytes(v, word.Width(b.shape(to.Type).kind)) {
 			m.bytes[at+j], m.known[at+j] = c, true

@@ -21,6 +21,8 @@ func TestP15_3Initialised(t *testing.T) {
 		"union U o = { 5 }", "union U o = { .n = { 1, 2, 3 } }", "union U o = { .b = { 1, 2, 3, 4 } }", "union U o = { .n[1] = f() }", "union U o = { .n = { 1, 2 }, .c = 9 }",
 		"struct M o = { { { 1, 2 }, gs }, { 3 }, { \"abcd\" } }", "struct M o = { .s[1].h[1] = 7, .u.b.b = 5, .t = { { 1 } } }", "struct M o = { .u = { .n = { f() } }, .s = { [1] = { 4 } } }",
 		"int o = 1, y = o", "int o = (x = 5, x + 1)", "struct S o = { sizeof o, sizeof o.h }", "int o[2] = { sizeof o, sizeof *o }", "struct S o = o", "struct S o = { 1, o.n + 3, { o.c } }", "int o[3] = { 4, o[0] + 1, o[1] + 1 }", "int o = o + 1", "struct S o = { .n = 2, .c = o.n }", "union U o = { .n = { 1, 2, o.n[0] } }", "int o[2] = { *o, o[1] }",
+		"int o = 7; o = 0", "int o = 0; o = 0", "int o = 0; o = 5; o = 0; o = 0", "short o = 3; o = 4; o = 0; o = f()", "int o = f(); o = 0; o = 0", "struct S o = gs; o.c = 0; o.n = 0; o.h[0] = 0", "struct S o = gs; o.c = 0; o.c = 9", "struct S o = { 5 }; o.n = f(); o.c = 0; o.n = 0", "struct S o = fs(); o = gs; o.n = 0; o.c = 0",
+		"int o[4] = { 5, 1 + f(), 2 - x, f() + 3 }", "int o[3] = { 1, x * 0, 0 * f() }", "int o[3] = { (char) x, (char) 300, (char) (x + 300) }", "int o[3] = { 1 / 1, 7 % 4, x / 1 }", "int o[2] = { -x, -3 }",
 		"char o[2][3] = { { 1, 2 }, { f() } }", "int o[2][2] = { 1, 2, 3 }", "int o[2][2] = { { 1 }, { 2 } }", "int o[17] = { 1 }", "int o[16] = { 1 }", "char o[65] = { 1, 2 }", "char o[67] = { [66] = 3 }", "short o[35] = { [33] = f(), 9 }", "char o[100] = \"a string of some length, so that it is more than sixty-four bytes long\"", "int o[40] = { [20] = 5, [30] = f(), 6, 7 }", "struct S o[9] = { [7] = { 1, 2 } }",
 		"int o[20] = { 1, -1, 2 + 3, 7 / 2, (char) 300, 0, 1 << 4, 'a', 5 > 2, ~0 }", "char o[4] = { 1 + 1, -1, (unsigned char) 511, 2 * 100 }",
 	} {
@@ -47,6 +49,16 @@ func TestP15_3Literals(t *testing.T) {
 		"return *(char *) &(int) { 258 };":                                                                                                        2,
 		"struct { struct S s[2]; } *p = (void *) &(struct { struct S s[2]; }) { { { 1, 2 }, { 3 } } }; return sum(p->s[1]) * 100 + sum(p->s[0]);": 3012,
 	})
+}
+
+// TestP15_3LiteralAgain: what was read of a literal stays as it was, though the literal begins anew.
+func TestP15_3LiteralAgain(t *testing.T) {
+	const ahead = "struct B { char c[4]; } b, *p = &b; int n; int keep(struct B a, char *z) { z[0] = n += 3; p = (struct B *) z; return a.c[0]; } "
+	runs(t,
+		exits(inMain(ahead, "int i, k = 0; for (i = 0; i < 3; i++) k = k * 10 + keep(*p, (char[4]) { \"\" }); return k;"), 36),
+		exits(inMain(ahead, "int i, k = 0; for (i = 0; i < 3; i++) k = k * 10 + keep(*p, (char[4]) { 0 }); return k;"), 36),
+		exits(inMain(ahead, "int i, k = 0; for (i = 0; i < 3; i++) k = k * 10 + keep(i ? *p : b, (char[4]) { 1, k }); return k;"), 36),
+	)
 }
 
 // TestP15_3Fresh: locals that are not initialised, of inner blocks, whose addresses are taken.

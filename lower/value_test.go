@@ -166,26 +166,28 @@ func TestP15_3Logic(t *testing.T) {
 func TestP15_3Pointers(t *testing.T) {
 	const ahead = "struct S { char c[3]; } s[5]; int x[5] = { 1, 2, 3, 4, 5 }, *p = x + 2, *null, m[2][3] = { { 1, 2, 3 }, { 4, 5, 6 } }; char z[4] = \"abc\"; int i = 1; unsigned char u = 2; struct N { int n; struct N *next; } n[3] = { { 7, n + 1 }, { 8, n + 2 }, { 9 } }; "
 	bodies(t, ahead, map[string]int{
-		"return *p * 10 + p[1];":                         34,
-		"return *(p - 1) * 10 + *(1 + p);":               24,
-		"return p[-2] * 10 + (-1)[p];":                   12,
-		"return p[i] + p[-i] + p[u] + *(p - u);":         4 + 2 + 5 + 1,
-		"p++; return *p;":                                4,
-		"return *p++ * 10 + *p;":                         34,
-		"return *--p * 10 + *p--;":                       22,
-		"p += 2; p -= i; return *p;":                     4,
-		"int *q = p + i; return (q - p) * 10 + (p - q);": 9,
-		"return &s[4] - &s[1];":                          3,
-		"return (&s[1] - &s[4]) * 2;":                    -6,
-		"return &z[3] - z;":                              3,
-		"return m[1][2] * 100 + *m[1] * 10 + **m;":       641,
-		"return (*(m + i))[2] * 10 + *(*(m + 1) + 1);":   65,
-		"return &m[1] - m;":                              1,
-		"int (*q)[3] = m; q++; return (*q)[1];":          5,
-		"return x[x[x[0]]];":                             3,
-		"return *&*&p[1];":                               4,
-		"return &x[3] == p + 1;":                         1,
-		"return &x[5] - p;":                              3,
+		"return *p * 10 + p[1];":                               34,
+		"return *(p - 1) * 10 + *(1 + p);":                     24,
+		"return p[-2] * 10 + (-1)[p];":                         12,
+		"return p[i] + p[-i] + p[u] + *(p - u);":               4 + 2 + 5 + 1,
+		"p++; return *p;":                                      4,
+		"return *p++ * 10 + *p;":                               34,
+		"return *--p * 10 + *p--;":                             22,
+		"p += 2; p -= i; return *p;":                           4,
+		"int *q = p + i; return (q - p) * 10 + (p - q);":       9,
+		"return &s[4] - &s[1];":                                3,
+		"return (&s[1] - &s[4]) * 2;":                          -6,
+		"return &z[3] - z;":                                    3,
+		"return m[1][2] * 100 + *m[1] * 10 + **m;":             641,
+		"return (*(m + i))[2] * 10 + *(*(m + 1) + 1);":         65,
+		"short h[4]; return (&h[3] - h) * 10 + (h - &h[2]);":   28,
+		"struct D { char c[12]; } d[3]; return &d[2] - &d[0];": 2,
+		"return &m[1] - m;":                                    1,
+		"int (*q)[3] = m; q++; return (*q)[1];":                5,
+		"return x[x[x[0]]];":                                   3,
+		"return *&*&p[1];":                                     4,
+		"return &x[3] == p + 1;":                               1,
+		"return &x[5] - p;":                                    3,
 		"return (p < x + 3) * 8 + (p > x + 3) * 4 + (p <= x + 2) * 2 + (p >= x + 3);":                                            10,
 		"return (p == x + 2) * 8 + (p != x + 2) * 4 + (p == x) * 2 + (p != x);":                                                  9,
 		"return (p == 0) * 8 + (0 == p) * 4 + (null == 0) * 2 + (null != 0);":                                                    2,
@@ -211,4 +213,27 @@ func TestP15_3Pointers(t *testing.T) {
 		"int a = 3, *q = &a, **r = &q; (**r)++; *q *= 2; return a;":                                                              8,
 		"struct S *q = s; q->c[1] = 5; (q + 1)->c[2] = 6; (++q)->c[0] = 7; return s[0].c[1] * 100 + s[1].c[2] * 10 + s[1].c[0];": 567,
 	})
+}
+
+// TestP15_3Far: places far outside of what there is have code, too, which may not be come to.
+func TestP15_3Far(t *testing.T) {
+	const ahead = "char c[16384]; struct S { char z[16380]; int f : 20, g : 12; } s, *q = &s; int zero, x[4] = { 1, 2, 3, 4 }, *p = x; struct T { short h[3]; } t, *r = &t; "
+	for _, place := range []string{"c[16384]", "c[16385]", "c[16387]", "c[16388]", "c[16389]", "c[20000]", "c[-1]", "c[-16384]", "c[-16385]", "c[100000]", "c[-100000]", "c[2147483647]", "c[0x80000000]", "x[4]", "x[-1]", "x[4096]", "x[-4097]", "x[1 << 29]", "p[4096]", "p[-5000]", "p[1 << 28]", "p[1 << 30]", "l[5]", "l[-1]", "l[40000]", "l[-40000]",
+		"q[1].f", "q[-1].g", "q[1].g", "(&s)[1].f", "(&s)[-1].g", "(&s)[2].z[3]", "q[100000].f", "(p + 1000000 - 1000000)[2000000]", "(&x[1 << 20])[1 << 20]", "((&l[1 << 28])[1 << 28])", "(*(&k + 1))", "(&k)[-1]", "(&k)[9999]"} {
+		for _, use := range []string{"%;", "% = 1;", "%++;", "&%;", "return % = % + 2;"} {
+			if use == "&%;" && (strings.HasSuffix(place, "f") || strings.HasSuffix(place, "g")) {
+				continue
+			}
+			runs(t, exits(inMain(ahead, "int k = 0, l[5] = { 0 }; if (zero) { "+strings.ReplaceAll(use, "%", place)+" } l[4] = 6; return l[4] + k;"), 6))
+		}
+	}
+	for _, use := range []string{"r[9999] = t;", "t = r[-9999];", "(&u)[5000] = (&u)[-5000];", "(&t)[1] = u;", "f(r[1 << 28], (&u)[3]);", "f((&t)[9999], t = u);"} {
+		runs(t, exits(inMain(ahead+"int f(struct T a, struct T b) { return 0; }", "struct T u = { { 1 } }; if (zero) { "+use+" } return u.h[0];"), 1))
+	}
+	runs(t,
+		exits(inMain(ahead, "s.g = -5; q->f = 77777; c[16383] = 3; return s.g * 10 + q->f + c[16383];"), -50+77777+3),
+		exits(inMain(ahead, "struct S l = { \"ab\" }, *m = &l; l.g = -5; m->f = 77777; l.z[16379] = 3; return l.g * 10 + m->f + m->z[16379];"), -50+77777+3),
+		exits(inMain(ahead, "char *e = c + 16384; e[-16384] = 4; e[-1] = 5; return c[0] * 10 + *(e - 1);"), 45),
+		exits(inMain(ahead, "return &c[16384] - &c[16383] + (&s + 1 > q) + (&s + 1 - q);"), 3),
+	)
 }
