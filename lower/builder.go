@@ -14,11 +14,17 @@ type builder struct {
 	loops  []loop  // those round what is written, the innermost one last
 }
 
-// newBuilder makes a builder that has written nothing yet.
-func newBuilder(types *gauge, p *api.Prog, f *api.Func) *builder {
-	b := &builder{gauge: types, prog: p, source: f}
-	b.Name, b.Params, b.Gives = f.Name, f.Params, types.shape(f.Result).isScalar()
-	if types.shape(f.Result).isRecord() {
+// newBuilder makes a builder of function number n that has written nothing yet. Where rooms are told, one must be able to ask whether a function gave a record: it gives 1, or 0 if it ended without one.
+func newBuilder(types *gauge, p *api.Prog, n int, rooms []int) *builder {
+	f := &p.Funcs[n]
+	is := types.shape(f.Result)
+	b := &builder{gauge: types, prog: p, source: f, spare: spare{room: anyRoom}}
+	b.Name, b.Params, b.Gives = f.Name, f.Params, is.isScalar()
+	if rooms != nil {
+		b.spare.room = rooms[n]
+		b.Gives = is.isScalar() || is.isRecord()
+	}
+	if is.isRecord() {
 		b.result = temporary(b.Params)
 		b.Params++
 	}
@@ -26,14 +32,14 @@ func newBuilder(types *gauge, p *api.Prog, f *api.Func) *builder {
 	return b
 }
 
-// function writes the whole function.
-func (b *builder) function() api.TacFunc {
+// function writes the whole function, but for its slots.
+func (b *builder) function() {
+	b.openRoom()
 	b.takeParameters()
 	b.statement(&b.source.Body)
 	b.leave(number(0)) // what ends without a value has nothing that may be asked for, but main exits with 0
+	b.closeRoom()
 	b.settle()
-	b.laySlots()
-	return b.TacFunc
 }
 
 // takeParameters gives the locals that are parameters what was handed over. Records are copied ahead of all else: whoever calls may lay the record that is returned where they lie.

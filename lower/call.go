@@ -68,14 +68,20 @@ func (b *builder) secure(given []argument) {
 	}
 }
 
-// callRecord writes a TxCall of a function that gives a record. That may be laid where records lie that were handed over: the function takes them first.
-func (b *builder) callRecord(x *api.Tree) address {
+// callRecord writes a TxCall of a function that gives a record, which is taken for something, or thrown away. That may be laid where records lie that were handed over: the function takes them first.
+func (b *builder) callRecord(x *api.Tree, taken bool) address {
 	low, spare := b.held, b.spare.used
 	args := b.arguments(x)
 	b.spare.used = spare
 	to := b.spareFor(b.shape(x.Type))
 	args = append(args, b.pointer(to))
-	b.write(api.Ins{Op: api.TacCall, N: x.Num, Args: args})
+	b.held = low
+	call := api.Ins{Op: api.TacCall, N: x.Num, Args: args}
+	if taken && b.isTight() {
+		b.unlessGiven(b.gain(b.temp(), call))
+	} else {
+		b.write(call)
+	}
 	b.held = low
 	return to
 }

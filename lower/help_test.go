@@ -159,6 +159,8 @@ func misfunction(g *gauge, f api.TacFunc, from api.Func) string {
 		return fmt.Sprintf("its name is %s, want %s", f.Name, from.Name)
 	case g.types.Scalar(from.Result) && !f.Gives:
 		return "it gives nothing"
+	case from.Result == 0 && f.Gives:
+		return "it gives something"
 	case scalars && (g.types.Scalar(from.Result) || from.Result == 0) && f.Params != from.Params:
 		return fmt.Sprintf("it has %d parameters, want %d", f.Params, from.Params)
 	}

@@ -13,7 +13,7 @@ func (b *builder) record(x *api.Tree) address {
 		b.effect(&x.Sub[0])
 		return b.record(&x.Sub[1])
 	case api.TxCall:
-		return b.callRecord(x)
+		return b.callRecord(x, true)
 	}
 	return b.address(&x.Sub[0])
 }
@@ -29,17 +29,49 @@ func (b *builder) setRecord(x *api.Tree) address {
 
 // chosenRecord writes a TxCond of records.
 func (b *builder) chosenRecord(x *api.Tree) address {
+	if liesNowhere(x) {
+		return b.gatheredRecord(x)
+	}
 	to := b.temp()
-	low, spare := b.held, b.spare.used
-	most := spare
+	low := b.held
 	side := func(x *api.Tree) {
-		b.held, b.spare.used = low, spare
+		b.held = low
 		b.move(to, b.pointer(b.record(x)))
-		most = max(most, b.spare.used)
 	}
 	b.choose(&x.Sub[0], func() { side(&x.Sub[1]) }, func() { side(&x.Sub[2]) })
-	b.held, b.spare.used = low, most
+	b.held = low
 	return behind(to)
+}
+
+// liesNowhere tells whether a record's bytes may lie nowhere else than in room for such.
+func liesNowhere(x *api.Tree) bool {
+	switch x.Kind {
+	case api.TxCall:
+		return true
+	case api.TxComma:
+		return liesNowhere(&x.Sub[1])
+	case api.TxCond:
+		return liesNowhere(&x.Sub[1]) || liesNowhere(&x.Sub[2])
+	}
+	return false
+}
+
+// gatheredRecord writes a TxCond of records, one of which lies nowhere else: there another one is laid, too. So what a function returned stays where it is, even if that is nothing: to copy it would take steps that C's machine does not.
+func (b *builder) gatheredRecord(x *api.Tree) address {
+	var to address
+	low, spare, is := b.held, b.spare.used, b.shape(x.Type)
+	side := func(x *api.Tree) {
+		b.held, b.spare.used = low, spare
+		from := b.record(x)
+		b.spare.used = spare
+		to = b.spareFor(is)
+		if from != to {
+			b.copyBytes(to, from, is)
+		}
+	}
+	b.choose(&x.Sub[0], func() { side(&x.Sub[1]) }, func() { side(&x.Sub[2]) })
+	b.held = low
+	return to
 }
 
 // copyRecord copies a record. C's machine reads all of it ahead of putting it down, so what lies across is copied by way of elsewhere.

@@ -177,11 +177,11 @@ func (b *builder) giveBack(x *api.Tree) {
 	switch {
 	case len(x.Sub) == 0:
 		b.leave(api.Arg{})
-	case b.Gives:
-		b.leave(b.value(&x.Sub[0]))
-	default: // no pointer leads to where what is returned goes, so nothing lies across it
+	case b.shape(x.Sub[0].Type).isRecord(): // no pointer leads to where what is returned goes, so nothing lies across it
 		b.copyBytes(behind(b.result), b.record(&x.Sub[0]), b.shape(x.Sub[0].Type))
-		b.leave(api.Arg{})
+		b.leave(number(1))
+	default:
+		b.leave(b.value(&x.Sub[0]))
 	}
 	b.held, b.spare.used = 0, 0
 }

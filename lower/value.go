@@ -96,7 +96,7 @@ func (b *builder) setAny(x *api.Tree) {
 // callAny writes a TxCall whose value nobody asks for.
 func (b *builder) callAny(x *api.Tree) {
 	if b.shape(x.Type).isRecord() {
-		b.callRecord(x)
+		b.callRecord(x, false)
 	} else {
 		b.write(api.Ins{Op: api.TacCall, N: x.Num, Args: b.arguments(x)})
 	}
